@@ -1,0 +1,1 @@
+"""Finds what the unknown signs of a script may stand for."""
